@@ -21,7 +21,7 @@ func filled(b byte) api.Block {
 	return block
 }
 
-// numbered: blocks 1., 2., ... of which each has bytes of its own.
+// numbered: blocks of which each has bytes of its own.
 func numbered(n int) []api.Block {
 	l := make([]api.Block, n)
 	for i := range l {
